@@ -7,6 +7,7 @@ import (
 	"slices"
 
 	"oche/api"
+	"oche/terms"
 )
 
 // How many lines a board has at least, and at most.
@@ -60,7 +61,7 @@ func Beds(b api.Board, x api.BoardBox) ([]api.Bed, api.Errno) {
 
 // validSpan reports whether a span is one of coordinates.
 func validSpan(s api.Span) bool {
-	return s.Low <= s.High && within(-api.MaxBoardPoint, api.MaxBoardPoint, s.Low, s.High)
+	return s.Low <= s.High && terms.Within(-api.MaxBoardPoint, api.MaxBoardPoint, s.Low, s.High)
 }
 
 // size returns how many integers a valid span has.

@@ -5,16 +5,11 @@ import (
 	"slices"
 
 	"oche/api"
+	"oche/terms"
 )
 
 // target is a board at which darts are thrown.
 type target struct{ api.Board }
-
-// within reports whether all numbers are from low to high.
-func within(low, high int, numbers ...int) bool {
-	outside := func(n int) bool { return n < low || n > high }
-	return !slices.ContainsFunc(numbers, outside)
-}
 
 // long reports whether a list of the board is too long.
 func (t target) long() bool {
@@ -23,12 +18,12 @@ func (t target) long() bool {
 
 // valid reports whether a board whose lists are not too long is valid.
 func (t target) valid() bool {
-	return within(0, api.MaxBoardWire, t.Wire) && t.validRings() && t.validNumbers() && t.validLines()
+	return terms.Within(0, api.MaxBoardWire, t.Wire) && t.validRings() && t.validNumbers() && t.validLines()
 }
 
 // validRings reports whether factors and radii are valid, for a valid Wire.
 func (t target) validRings() bool {
-	wrong := func(r api.BoardRing) bool { return !within(0, api.MaxFactor, r.Factor) }
+	wrong := func(r api.BoardRing) bool { return !terms.Within(0, api.MaxFactor, r.Factor) }
 	if len(t.Rings) == 0 || slices.ContainsFunc(t.Rings, wrong) {
 		return false
 	}
@@ -61,7 +56,7 @@ func (t target) rim() int { return t.Rings[len(t.Rings)-1].Outer }
 
 // validNumbers reports whether the numbers are valid, and as many as the lines.
 func (t target) validNumbers() bool {
-	if len(t.Numbers) != len(t.Lines) || !within(1, api.MaxNumber, t.Numbers...) {
+	if len(t.Numbers) != len(t.Lines) || !terms.Within(1, api.MaxNumber, t.Numbers...) {
 		return false
 	}
 	seen := map[int]bool{}
@@ -93,7 +88,7 @@ func (t target) validLines() bool {
 
 // validPoint reports whether a point is valid.
 func validPoint(p api.BoardPoint) bool {
-	return within(-api.MaxBoardPoint, api.MaxBoardPoint, p.X, p.Y)
+	return terms.Within(-api.MaxBoardPoint, api.MaxBoardPoint, p.X, p.Y)
 }
 
 // line returns a line as a direction.

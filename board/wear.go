@@ -6,6 +6,7 @@ import (
 	"slices"
 
 	"oche/api"
+	"oche/terms"
 )
 
 // Turn returns a board whose ring of numbers is turned by k sectors.
@@ -13,7 +14,7 @@ func Turn(b api.Board, k int) (api.Board, api.Errno) {
 	if e := Check(b); e != api.OK {
 		return api.Board{}, e
 	}
-	if !within(0, len(b.Numbers)-1, k) {
+	if !terms.Within(0, len(b.Numbers)-1, k) {
 		return api.Board{}, api.ErrRange
 	}
 	b.Rings, b.Lines, b.Numbers = slices.Clone(b.Rings), slices.Clone(b.Lines), turned(b.Numbers, k)
@@ -37,7 +38,7 @@ func Wear(b api.Board, worn, week []int, k int) ([]int, api.Errno) {
 	if e := wearError(len(b.Numbers), worn, week); e != api.OK {
 		return nil, e
 	}
-	if !within(0, len(worn)-1, k) {
+	if !terms.Within(0, len(worn)-1, k) {
 		return nil, api.ErrRange
 	}
 	wear := after(worn, week, k)
@@ -53,8 +54,8 @@ func wearError(sectors int, worn []int, weeks ...[]int) api.Errno {
 	if uneven(worn) || slices.ContainsFunc(weeks, uneven) {
 		return api.ErrForm
 	}
-	wrong := func(week []int) bool { return !within(0, api.MaxBoardHits, week...) }
-	if !within(0, api.MaxBoardWear, worn...) || slices.ContainsFunc(weeks, wrong) {
+	wrong := func(week []int) bool { return !terms.Within(0, api.MaxBoardHits, week...) }
+	if !terms.Within(0, api.MaxBoardWear, worn...) || slices.ContainsFunc(weeks, wrong) {
 		return api.ErrArg
 	}
 	return api.OK
@@ -142,7 +143,7 @@ func Last(b api.Board, worn, week []int, limit int) (weeks int, e api.Errno) {
 	if e := wearError(len(b.Numbers), worn, week); e != api.OK {
 		return 0, e
 	}
-	if !within(0, api.MaxBoardWear, limit) {
+	if !terms.Within(0, api.MaxBoardWear, limit) {
 		return 0, api.ErrRange
 	}
 	for past := range api.MaxBoardWeeks + 1 {

@@ -1,0 +1,56 @@
+package terms_test
+
+import (
+	"math"
+	"testing"
+
+	"oche/api"
+	"oche/terms"
+)
+
+// R5, R7: both ends are within; numbers may be any.
+func TestWithin(t *testing.T) {
+	for _, c := range []struct {
+		low, high int
+		numbers   []int
+		want      bool
+	}{
+		{1, 3, nil, true}, {1, 3, []int{1, 2, 3}, true}, {2, 2, []int{2}, true}, {-3, -1, []int{-3, -1}, true}, {math.MinInt, math.MaxInt, []int{math.MinInt, 0, math.MaxInt}, true},
+		{1, 3, []int{0}, false}, {1, 3, []int{4}, false}, {1, 3, []int{2, 4, 2}, false}, {1, 3, []int{2, 0}, false}, {3, 1, []int{2}, false}, {0, 5, []int{math.MinInt}, false}, {0, 5, []int{math.MaxInt}, false},
+	} {
+		if got := terms.Within(c.low, c.high, c.numbers...); got != c.want {
+			t.Error(c.low, c.high, c.numbers, got)
+		}
+	}
+}
+
+// R8: there are three gates.
+func TestValidGates(t *testing.T) {
+	for _, c := range []struct {
+		gates []api.Gate
+		want  bool
+	}{
+		{nil, true}, {[]api.Gate{api.GateAny, api.GateDouble, api.GateMaster}, true},
+		{[]api.Gate{-1}, false}, {[]api.Gate{3}, false}, {[]api.Gate{api.GateAny, math.MaxInt}, false}, {[]api.Gate{math.MinInt, api.GateAny}, false},
+	} {
+		if got := terms.ValidGates(c.gates...); got != c.want {
+			t.Error(c.gates, got)
+		}
+	}
+}
+
+// DOC.md: a Count is valid if Start is from 2 to 1001 and both gates are one of the three.
+func TestValidCount(t *testing.T) {
+	for _, c := range []struct {
+		count api.Count
+		want  bool
+	}{
+		{api.Count{Start: 2}, true}, {api.Count{Start: 1001, In: api.GateMaster, Out: api.GateDouble}, true}, {api.Count{Start: 501, In: api.GateDouble, Out: api.GateMaster}, true},
+		{api.Count{}, false}, {api.Count{Start: 1}, false}, {api.Count{Start: 1002}, false}, {api.Count{Start: -2}, false}, {api.Count{Start: math.MaxInt}, false},
+		{api.Count{Start: 2, In: 3}, false}, {api.Count{Start: 2, In: -1}, false}, {api.Count{Start: 2, Out: 3}, false}, {api.Count{Start: 2, Out: -1}, false},
+	} {
+		if got := terms.ValidCount(c.count); got != c.want {
+			t.Error(c.count, got)
+		}
+	}
+}
