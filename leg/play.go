@@ -39,7 +39,7 @@ func (g *leg) take(v api.LegVisit) (dart int, e api.Errno) {
 	if p != g.Next {
 		return noDart, api.ErrTurn
 	}
-	t, dart, e := judge(g.Counts[p], g.In[p], g.Left[p], v.Beds)
+	t, dart, e := thrown(g.Counts[p], g.In[p], g.Left[p], v.Beds)
 	if e != api.OK {
 		return dart, e
 	}

@@ -23,8 +23,8 @@ func validStand(c api.Count, in bool, left int) bool {
 	return terms.Within(lowest, c.Start, left) && (in || left == c.Start)
 }
 
-// judge returns what beds come to from a valid stand, or their error and the number of the bed with which it was found.
-func judge(c api.Count, in bool, left int, beds []api.Bed) (t api.LegThrow, dart int, e api.Errno) {
+// thrown returns what beds come to from a valid stand, or their error and the number of the bed with which it was found.
+func thrown(c api.Count, in bool, left int, beds []api.Bed) (t api.LegThrow, dart int, e api.Errno) {
 	v := visit{api.LegThrow{Left: left, In: in}, c}
 	for i, bed := range beds {
 		if v.ended() {
