@@ -56,14 +56,7 @@ func (t target) rim() int { return t.Rings[len(t.Rings)-1].Outer }
 
 // validNumbers reports whether the numbers are valid, and as many as the lines.
 func (t target) validNumbers() bool {
-	if len(t.Numbers) != len(t.Lines) || !terms.Within(1, api.MaxNumber, t.Numbers...) {
-		return false
-	}
-	seen := map[int]bool{}
-	for _, n := range t.Numbers {
-		seen[n] = true
-	}
-	return len(seen) == len(t.Numbers)
+	return len(t.Numbers) == len(t.Lines) && terms.Within(1, api.MaxNumber, t.Numbers...) && terms.Distinct(t.Numbers)
 }
 
 // validLines reports whether the lines are points and go around the centre once.

@@ -1,4 +1,4 @@
-// Package terms is what several layers share of DOC.md's section Terms: numbers within bounds, beds, gates, and what a dart does to a score.
+// Package terms is what several layers share of DOC.md's section Terms: numbers within bounds, beds, gates, and what a dart does to a score; and whether anything is in a list twice.
 package terms
 
 import (
@@ -25,4 +25,13 @@ func ValidGates(gates ...api.Gate) bool {
 // ValidCount reports whether the laws of a leg are valid.
 func ValidCount(c api.Count) bool {
 	return Within(lowestStart, api.MaxStart, c.Start) && ValidGates(c.In, c.Out)
+}
+
+// Distinct reports whether no two elements of a list are the same.
+func Distinct[T comparable](l []T) bool {
+	seen := map[T]bool{}
+	for _, x := range l {
+		seen[x] = true
+	}
+	return len(seen) == len(l)
 }

@@ -54,3 +54,21 @@ func TestValidCount(t *testing.T) {
 		}
 	}
 }
+
+// R3: an empty list has no two elements that are the same.
+func TestDistinct(t *testing.T) {
+	for _, c := range []struct {
+		l    []int
+		want bool
+	}{
+		{nil, true}, {[]int{}, true}, {[]int{7}, true}, {[]int{3, 1, 2}, true}, {[]int{math.MinInt, 0, math.MaxInt}, true},
+		{[]int{7, 7}, false}, {[]int{0, 0}, false}, {[]int{1, 2, 3, 1}, false}, {[]int{1, 2, 3, 3}, false}, {[]int{5, 5, 5}, false},
+	} {
+		if got := terms.Distinct(c.l); got != c.want {
+			t.Error(c.l, got)
+		}
+	}
+	if terms.Distinct([]api.Bed{api.Eye, api.Miss, api.Eye}) || !terms.Distinct([]api.Bed{api.Eye, api.Miss, api.Bull}) {
+		t.Error("beds")
+	}
+}
