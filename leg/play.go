@@ -21,8 +21,9 @@ func begin(r api.LegRules) *leg {
 	g.Next = r.First
 	g.Darts = make([]int, len(r.Counts))
 	for _, c := range r.Counts {
-		g.Left = append(g.Left, c.Start)
-		g.In = append(g.In, c.In == api.GateAny)
+		s := terms.Begin(c)
+		g.Left = append(g.Left, s.Left)
+		g.In = append(g.In, s.In)
 	}
 	return g
 }

@@ -14,15 +14,6 @@ type visit struct {
 	laws api.Count
 }
 
-// validStand reports whether a player can have so much left, by valid laws.
-func validStand(c api.Count, in bool, left int) bool {
-	lowest := 2
-	if c.Out == api.GateAny {
-		lowest = 1
-	}
-	return terms.Within(lowest, c.Start, left) && (in || left == c.Start)
-}
-
 // thrown returns what beds come to from a valid stand, or their error and the number of the bed with which it was found.
 func thrown(c api.Count, in bool, left int, beds []api.Bed) (t api.LegThrow, dart int, e api.Errno) {
 	v := visit{api.LegThrow{Left: left, In: in}, c}
@@ -51,15 +42,8 @@ func (v *visit) ended() bool { return v.Won || v.Bust || v.Darts == api.Darts }
 
 // take carries out a dart, but does not take back what was scored before a dart that is bust.
 func (v *visit) take(h terms.Hit) {
+	s, bust := h.From(api.HeardStand{Left: v.Left, In: v.In}, v.laws)
+	v.Left, v.In = s.Left, s.In
+	v.Bust, v.Won = bust, s.Left == 0
 	v.Darts++
-	v.In = v.In || h.Opens(v.laws.In)
-	if !v.In {
-		return
-	}
-	if h.Bust(v.Left, v.laws.Out) {
-		v.Bust = true
-		return
-	}
-	v.Left -= h.Score()
-	v.Won = v.Left == 0
 }

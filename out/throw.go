@@ -7,19 +7,6 @@ import (
 	"oche/terms"
 )
 
-// validBeds reports whether a list of beds is valid.
-func validBeds(beds []api.Bed) bool {
-	if !terms.Within(1, api.MaxOutBeds, len(beds)) {
-		return false
-	}
-	for i, bed := range beds {
-		if bed == api.Miss || !(terms.Hit{Bed: bed}).Valid() || i > 0 && bed <= beds[i-1] {
-			return false
-		}
-	}
-	return true
-}
-
 // throw is a bed that is hit, and the score that was left before.
 type throw struct {
 	terms.Hit

@@ -1,4 +1,4 @@
-// Package terms is what several layers share of DOC.md's section Terms: numbers within bounds, beds, gates, and what a dart does to a score; and whether anything is in a list twice.
+// Package terms is what several layers share of DOC.md's section Terms: numbers within bounds, beds, gates, stands, and what a dart does to a stand; and whether anything is in a list twice.
 package terms
 
 import (
@@ -25,6 +25,19 @@ func ValidGates(gates ...api.Gate) bool {
 // ValidCount reports whether the laws of a leg are valid.
 func ValidCount(c api.Count) bool {
 	return Within(lowestStart, api.MaxStart, c.Start) && ValidGates(c.In, c.Out)
+}
+
+// ValidBeds reports whether a list has from 1 to most beds, each greater than the one before, and no miss.
+func ValidBeds(beds []api.Bed, most int) bool {
+	if !Within(1, most, len(beds)) {
+		return false
+	}
+	for i, bed := range beds {
+		if bed == api.Miss || !(Hit{Bed: bed}).Valid() || i > 0 && bed <= beds[i-1] {
+			return false
+		}
+	}
+	return true
 }
 
 // Distinct reports whether no two elements of a list are the same.
