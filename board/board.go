@@ -45,7 +45,7 @@ func Beds(b api.Board, x api.BoardBox) ([]api.Bed, api.Errno) {
 	if e := Check(b); e != api.OK {
 		return nil, e
 	}
-	if !validSpan(x.X) || !validSpan(x.Y) {
+	if !terms.ValidSpans(-api.MaxBoardPoint, api.MaxBoardPoint, x.X, x.Y) {
 		return nil, api.ErrArg
 	}
 	if size(x.X)*size(x.Y) > api.MaxBoardBox {
@@ -57,11 +57,6 @@ func Beds(b api.Board, x api.BoardBox) ([]api.Bed, api.Errno) {
 		seen[bed] = true
 	}
 	return slices.Sorted(maps.Keys(seen)), api.OK
-}
-
-// validSpan reports whether a span is one of coordinates.
-func validSpan(s api.Span) bool {
-	return s.Low <= s.High && terms.Within(-api.MaxBoardPoint, api.MaxBoardPoint, s.Low, s.High)
 }
 
 // size returns how many integers a valid span has.

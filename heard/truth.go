@@ -1,7 +1,6 @@
 package heard
 
 import (
-	"math"
 	"slices"
 
 	"oche/api"
@@ -29,7 +28,7 @@ func newTruths(l api.HeardLeg, reports []api.HeardReport) *truths {
 		t.now = append(t.now, stands{terms.Begin(l.Count): true})
 	}
 	for range l.Turns {
-		t.scores, t.lefts, t.darts = append(t.scores, nothing()), append(t.lefts, nothing()), append(t.darts, nothing())
+		t.scores, t.lefts, t.darts = append(t.scores, terms.NoSpan()), append(t.lefts, terms.NoSpan()), append(t.darts, terms.NoSpan())
 	}
 	return t
 }
@@ -73,18 +72,9 @@ func (t *truths) note(turn int, before api.HeardStand, after stands) bool {
 			continue
 		}
 		leads = true
-		widen(&t.scores[turn], v.score())
-		widen(&t.lefts[turn], v.left())
-		widen(&t.darts[turn], darts.Low, darts.High)
+		terms.Widen(&t.scores[turn], v.score())
+		terms.Widen(&t.lefts[turn], v.left())
+		terms.Widen(&t.darts[turn], darts.Low, darts.High)
 	}
 	return leads
-}
-
-// nothing returns a span without any number.
-func nothing() api.Span { return api.Span{Low: math.MaxInt, High: math.MinInt} }
-
-// widen lets a span contain numbers.
-func widen(s *api.Span, numbers ...int) {
-	s.Low = min(s.Low, slices.Min(numbers))
-	s.High = max(s.High, slices.Max(numbers))
 }
