@@ -76,19 +76,3 @@ func TestFrom(t *testing.T) {
 		}
 	}
 }
-
-// A list of beds has no miss, is strictly ascending, and is neither empty nor too long.
-func TestValidBeds(t *testing.T) {
-	for _, c := range []struct {
-		beds []api.Bed
-		most int
-		want bool
-	}{
-		{[]api.Bed{101}, 1, true}, {[]api.Bed{101, 125, 225, 420}, 4, true}, {[]api.Bed{101, 125, 225, 420}, 82, true}, {[]api.Bed{320}, 82, true},
-		{nil, 82, false}, {[]api.Bed{}, 82, false}, {[]api.Bed{101, 102}, 1, false}, {[]api.Bed{0}, 82, false}, {[]api.Bed{0, 101}, 82, false}, {[]api.Bed{101, 101}, 82, false}, {[]api.Bed{101, 201, 120}, 82, false}, {[]api.Bed{121}, 82, false}, {[]api.Bed{101, 325}, 82, false}, {[]api.Bed{-101}, 82, false}, {[]api.Bed{101, math.MaxInt}, 82, false}, {[]api.Bed{math.MinInt}, 82, false},
-	} {
-		if got := terms.ValidBeds(c.beds, c.most); got != c.want {
-			t.Error(c.beds, c.most, got)
-		}
-	}
-}

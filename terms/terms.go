@@ -2,6 +2,7 @@
 package terms
 
 import (
+	"iter"
 	"slices"
 
 	"oche/api"
@@ -27,17 +28,21 @@ func ValidCount(c api.Count) bool {
 	return Within(lowestStart, api.MaxStart, c.Start) && ValidGates(c.In, c.Out)
 }
 
-// ValidBeds reports whether a list has from 1 to most beds, each greater than the one before, and no miss.
-func ValidBeds(beds []api.Bed, most int) bool {
-	if !Within(1, most, len(beds)) {
-		return false
-	}
-	for i, bed := range beds {
-		if bed == api.Miss || !(Hit{Bed: bed}).Valid() || i > 0 && bed <= beds[i-1] {
+// Ascending reports whether all that is yielded are beds or misses, each greater than the one before.
+func Ascending(beds iter.Seq[api.Bed]) bool {
+	last := api.Miss - 1
+	for bed := range beds {
+		if bed <= last || !(Hit{Bed: bed}).Valid() {
 			return false
 		}
+		last = bed
 	}
 	return true
+}
+
+// ValidBeds reports whether a list has from 1 to most beds, each greater than the one before, and no miss.
+func ValidBeds(beds []api.Bed, most int) bool {
+	return Within(1, most, len(beds)) && !slices.Contains(beds, api.Miss) && Ascending(slices.Values(beds))
 }
 
 // Distinct reports whether no two elements of a list are the same.

@@ -1,7 +1,9 @@
 package terms_test
 
 import (
+	"maps"
 	"math"
+	"slices"
 	"testing"
 
 	"oche/api"
@@ -51,6 +53,38 @@ func TestValidCount(t *testing.T) {
 	} {
 		if got := terms.ValidCount(c.count); got != c.want {
 			t.Error(c.count, got)
+		}
+	}
+}
+
+// A list of beds has no miss, is strictly ascending, and is neither empty nor too long.
+func TestValidBeds(t *testing.T) {
+	for _, c := range []struct {
+		beds []api.Bed
+		most int
+		want bool
+	}{
+		{[]api.Bed{101}, 1, true}, {[]api.Bed{101, 125, 225, 420}, 4, true}, {[]api.Bed{101, 125, 225, 420}, 82, true}, {[]api.Bed{320}, 82, true},
+		{nil, 82, false}, {[]api.Bed{}, 82, false}, {[]api.Bed{101, 102}, 1, false}, {[]api.Bed{0}, 82, false}, {[]api.Bed{0, 101}, 82, false}, {[]api.Bed{101, 101}, 82, false}, {[]api.Bed{101, 201, 120}, 82, false}, {[]api.Bed{121}, 82, false}, {[]api.Bed{101, 325}, 82, false}, {[]api.Bed{-101}, 82, false}, {[]api.Bed{101, math.MaxInt}, 82, false}, {[]api.Bed{math.MinInt}, 82, false},
+	} {
+		if got := terms.ValidBeds(c.beds, c.most); got != c.want {
+			t.Error(c.beds, c.most, got)
+		}
+	}
+}
+
+// Beds or misses ascend if each is greater than the one before; there can be none, and all of them.
+func TestAscending(t *testing.T) {
+	all := slices.Sorted(maps.Keys(beds()))
+	for _, c := range []struct {
+		beds []api.Bed
+		want bool
+	}{
+		{nil, true}, {[]api.Bed{0}, true}, {[]api.Bed{0, 101}, true}, {[]api.Bed{225}, true}, {all, true},
+		{[]api.Bed{0, 0}, false}, {[]api.Bed{101, 0}, false}, {[]api.Bed{101, 101}, false}, {[]api.Bed{0, 101, 201, 120}, false}, {[]api.Bed{-1}, false}, {[]api.Bed{-1, 0}, false}, {[]api.Bed{0, 121}, false}, {[]api.Bed{0, 325, 401}, false}, {[]api.Bed{math.MinInt}, false}, {[]api.Bed{0, math.MaxInt}, false}, {append(all[:83:83], 501), false},
+	} {
+		if got := terms.Ascending(slices.Values(c.beds)); got != c.want {
+			t.Error(c.beds, got)
 		}
 	}
 }
