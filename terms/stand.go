@@ -20,6 +20,15 @@ func ValidStand(c api.Count, s api.HeardStand) bool {
 	return Within(Lowest(c.Out), c.Start, s.Left) && (s.In || s.Left == c.Start)
 }
 
+// ValidPosition reports whether a visit of a player who is in, and has at most so much left, can come to a position.
+func ValidPosition(most int, out api.Gate, p api.AimPosition) bool {
+	lowest := Lowest(out)
+	if !Within(lowest, most, p.Start) || !Within(lowest, p.Start, p.Left) || !Within(1, api.Darts, p.Darts) {
+		return false
+	}
+	return p.Darts < api.Darts || p.Left == p.Start
+}
+
 // From returns the stand of a player after a dart, or the stand before it if the dart is bust; with 0 left the leg is won.
 func (h Hit) From(s api.HeardStand, c api.Count) (after api.HeardStand, bust bool) {
 	if !s.In && !h.Opens(c.In) {

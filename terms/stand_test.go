@@ -48,6 +48,23 @@ func TestValidStand(t *testing.T) {
 	}
 }
 
+// A visit starts with what can be left, leaves no more than this, and has nothing scored before its first dart.
+func TestValidPosition(t *testing.T) {
+	for _, c := range []struct {
+		out  api.Gate
+		p    api.AimPosition
+		want bool
+	}{
+		{api.GateDouble, api.AimPosition{Start: 40, Left: 40, Darts: 3}, true}, {api.GateMaster, api.AimPosition{Start: 2, Left: 2, Darts: 3}, true}, {api.GateAny, api.AimPosition{Start: 1, Left: 1, Darts: 3}, true}, {api.GateDouble, api.AimPosition{Start: 40, Left: 40, Darts: 2}, true}, {api.GateDouble, api.AimPosition{Start: 40, Left: 2, Darts: 2}, true}, {api.GateDouble, api.AimPosition{Start: 39, Left: 17, Darts: 1}, true}, {api.GateAny, api.AimPosition{Start: 40, Left: 1, Darts: 1}, true},
+		{api.GateDouble, api.AimPosition{Start: 41, Left: 40, Darts: 2}, false}, {api.GateDouble, api.AimPosition{Start: 1, Left: 1, Darts: 3}, false}, {api.GateMaster, api.AimPosition{Start: 40, Left: 1, Darts: 2}, false}, {api.GateAny, api.AimPosition{}, false}, {api.GateAny, api.AimPosition{Darts: 3}, false}, {api.GateAny, api.AimPosition{Start: 40, Darts: 2}, false}, {api.GateDouble, api.AimPosition{Start: 17, Left: 18, Darts: 2}, false}, {api.GateDouble, api.AimPosition{Start: 17, Left: 18, Darts: 3}, false}, {api.GateDouble, api.AimPosition{Start: 17, Left: 16, Darts: 3}, false}, {api.GateDouble, api.AimPosition{Start: 17, Left: 17}, false}, {api.GateDouble, api.AimPosition{Start: 17, Left: 17, Darts: 4}, false},
+		{api.GateAny, api.AimPosition{Start: math.MaxInt, Left: 1, Darts: 1}, false}, {api.GateAny, api.AimPosition{Start: math.MinInt, Left: math.MinInt, Darts: 3}, false}, {api.GateAny, api.AimPosition{Start: 40, Left: math.MinInt, Darts: 1}, false}, {api.GateAny, api.AimPosition{Start: 40, Left: 40, Darts: math.MinInt}, false}, {api.GateAny, api.AimPosition{Start: 40, Left: 40, Darts: math.MaxInt}, false},
+	} {
+		if got := terms.ValidPosition(40, c.out, c.p); got != c.want {
+			t.Error(c.out, c.p, got)
+		}
+	}
+}
+
 // C2: what a dart does to each stand, for each bed and all gates.
 func TestFrom(t *testing.T) {
 	gates := []api.Gate{api.GateAny, api.GateDouble, api.GateMaster}

@@ -1,4 +1,4 @@
-// Package terms is what several layers share of DOC.md's section Terms: numbers within bounds, spans, beds, gates, stands, and what a dart does to a stand; and whether anything is in a list twice.
+// Package terms is what several layers share of DOC.md's section Terms: numbers within bounds, spans, beds, gates, stands, and what a dart does to a stand; which positions a visit can come to; and whether anything is in a list twice.
 package terms
 
 import (
