@@ -1,4 +1,4 @@
-// Package terms is what several layers share of DOC.md's section Terms: numbers within bounds, spans, beds, gates, stands, and what a dart does to a stand; which positions a visit can come to; and whether anything is in a list twice.
+// Package terms is what several layers share of DOC.md's section Terms: numbers within bounds, spans, beds, gates, starts, stands, and what a dart does to a stand; which positions a visit can come to; and whether anything is in a list twice.
 package terms
 
 import (
@@ -8,8 +8,8 @@ import (
 	"oche/api"
 )
 
-// lowestStart is the lowest start of a leg.
-const lowestStart = 2
+// LowestStart is the lowest start of a leg.
+const LowestStart = 2
 
 // Within reports whether all numbers are from low to high.
 func Within(low, high int, numbers ...int) bool {
@@ -25,7 +25,7 @@ func ValidGates(gates ...api.Gate) bool {
 
 // ValidCount reports whether the laws of a leg are valid.
 func ValidCount(c api.Count) bool {
-	return Within(lowestStart, api.MaxStart, c.Start) && ValidGates(c.In, c.Out)
+	return Within(LowestStart, api.MaxStart, c.Start) && ValidGates(c.In, c.Out)
 }
 
 // Ascending reports whether all that is yielded are beds or misses, each greater than the one before.
